@@ -2,13 +2,20 @@
 package acre
 
 import (
+	"acre/answers"
 	"acre/api"
 	"acre/blocks"
+	"acre/book"
 	"acre/disk"
+	"acre/lines"
+	"acre/tokens"
 )
 
 // Book has pools, subnets and leases.
-type Book struct{}
+type Book struct {
+	has    book.Book
+	tokens tokens.Table
+}
 
 // Read reads a block (P3).
 func Read(s string) (api.Block, api.Errno) { return blocks.Read(s) }
@@ -29,7 +36,39 @@ func Halves(b api.Block) (api.Block, api.Block, api.Errno) { return blocks.Halve
 func Meet(a api.Block, b api.Block) bool { return blocks.Meet(a, b) }
 
 // Open makes a book of what is on a disk (P5, P11).
-func Open(d *disk.Disk) (*Book, api.Errno) { return nil, api.OK }
+func Open(d *disk.Disk) (*Book, api.Errno) {
+	return &Book{tokens: tokens.New()}, api.OK
+}
 
 // Do does a line, and answers it (P5 to P10).
-func (x *Book) Do(line string) string { return "" }
+func (x *Book) Do(line string) string {
+	l, right := lines.Read(line)
+	switch {
+	case !right:
+		return answers.Refuse(answers.Line).Text()
+	case l.Verb.IsCommand():
+		return x.command(l, line)
+	}
+	return x.has.Do(l).Text()
+}
+
+// command does a command, or answers it from the table of tokens.
+func (x *Book) command(l lines.Line, line string) string {
+	if done, found := x.tokens.Find(l.Token); found {
+		return again(done, line)
+	}
+	answer := x.has.Do(l)
+	text := answer.Text()
+	if answer.IsOK() {
+		x.tokens.Add(tokens.Entry{Token: l.Token, Line: line, Answer: text})
+	}
+	return text
+}
+
+// again answers a line whose token is in the table.
+func again(done tokens.Entry, line string) string {
+	if done.Line != line {
+		return answers.Refuse(answers.Token).Text()
+	}
+	return done.Answer
+}

@@ -58,3 +58,18 @@ func Meet(a api.Block, b api.Block) bool {
 	// Blocks that meet lie one in the other: the bits of the larger one decide.
 	return (a.Base^b.Base)&mask(min(a.Bits, b.Bits)) == 0
 }
+
+// In tells whether all addresses of the one block are in the other; false, if one of them is not right.
+func In(inner api.Block, outer api.Block) bool {
+	return inner.Bits >= outer.Bits && Meet(inner, outer)
+}
+
+// Single tells the block of just one address.
+func Single(address uint32) api.Block {
+	return api.Block{Base: address, Bits: WholeBits}
+}
+
+// Last tells the last address of a right block.
+func Last(b api.Block) uint32 {
+	return b.Base | ^mask(b.Bits)
+}

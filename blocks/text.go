@@ -16,8 +16,8 @@ const (
 // Read reads a right block.
 func Read(s string) (api.Block, api.Errno) {
 	baseText, bitsText, found := strings.Cut(s, "/")
-	base, baseRight := readAddress(baseText)
-	bits, bitsRight := readNumber(bitsText, WholeBits)
+	base, baseRight := ReadAddress(baseText)
+	bits, bitsRight := ReadBits(bitsText)
 	b := api.Block{Base: base, Bits: bits}
 	if !found || !baseRight || !bitsRight || !Right(b) {
 		return api.Block{}, api.ErrText
@@ -30,11 +30,16 @@ func Write(b api.Block) (string, api.Errno) {
 	if !Right(b) {
 		return "", api.ErrBlock
 	}
-	return writeAddress(b.Base) + "/" + strconv.Itoa(b.Bits), api.OK
+	return WriteAddress(b.Base) + "/" + strconv.Itoa(b.Bits), api.OK
 }
 
-// readAddress reads an address; false, if the text is not just one.
-func readAddress(text string) (uint32, bool) {
+// ReadBits reads a number of Bits, from 0 to 32; false, if the text is not just one.
+func ReadBits(text string) (int, bool) {
+	return readNumber(text, WholeBits)
+}
+
+// ReadAddress reads an address; false, if the text is not just one.
+func ReadAddress(text string) (uint32, bool) {
 	// One part too many is enough to see that there are too many, however long the text is.
 	parts := strings.SplitN(text, ".", addressParts+1)
 	if len(parts) != addressParts {
@@ -51,8 +56,8 @@ func readAddress(text string) (uint32, bool) {
 	return address, true
 }
 
-// writeAddress tells how an address is written.
-func writeAddress(address uint32) string {
+// WriteAddress tells how an address is written.
+func WriteAddress(address uint32) string {
 	var parts [addressParts]string
 	for i := range parts {
 		// The last part has the lowest byte.
