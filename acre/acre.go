@@ -8,13 +8,17 @@ import (
 	"acre/book"
 	"acre/disk"
 	"acre/lines"
+	"acre/snapshot"
+	"acre/store"
 	"acre/tokens"
 )
 
 // Book has pools, subnets and leases.
 type Book struct {
-	has    book.Book
+	store  store.Store
+	has    *book.Book
 	tokens tokens.Table
+	down   bool // a command could not be made safe: nothing is answered any more
 }
 
 // Read reads a block (P3).
@@ -37,11 +41,24 @@ func Meet(a api.Block, b api.Block) bool { return blocks.Meet(a, b) }
 
 // Open makes a book of what is on a disk (P5, P11).
 func Open(d *disk.Disk) (*Book, api.Errno) {
-	return &Book{tokens: tokens.New()}, api.OK
+	// No disk at all does no step either.
+	if d == nil || d.Stopped() {
+		return nil, api.ErrDown
+	}
+	kept := store.On(d)
+	has, done, right := snapshot.Read(kept.Text())
+	if !right {
+		// Somebody else wrote on the disk: a book on it would lay itself over what is there.
+		return nil, api.ErrDown
+	}
+	return &Book{store: kept, has: has, tokens: done}, api.OK
 }
 
-// Do does a line, and answers it (P5 to P10).
+// Do does a line, and answers it (P5 to P10, P12).
 func (x *Book) Do(line string) string {
+	if x.down {
+		return ""
+	}
 	l, right := lines.Read(line)
 	switch {
 	case !right:
@@ -59,8 +76,14 @@ func (x *Book) command(l lines.Line, line string) string {
 	}
 	answer := x.has.Do(l)
 	text := answer.Text()
-	if answer.IsOK() {
-		x.tokens.Add(tokens.Entry{Token: l.Token, Line: line, Answer: text})
+	if !answer.IsOK() {
+		return text
+	}
+	x.tokens.Add(tokens.Entry{Token: l.Token, Line: line, Answer: text})
+	if !x.store.Put(snapshot.Write(x.has, x.tokens)) {
+		// The command stays done here, and nobody sees it: there is no answer from now on.
+		x.down = true
+		return ""
 	}
 	return text
 }

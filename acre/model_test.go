@@ -25,6 +25,10 @@ func newModel() *model {
 	return &model{pools: map[api.Block]string{}, nets: map[api.Block]string{}, leases: map[uint32]string{}}
 }
 
+func (m *model) clone() *model {
+	return &model{pools: maps.Clone(m.pools), nets: maps.Clone(m.nets), leases: maps.Clone(m.leases), done: slices.Clone(m.done)}
+}
+
 // check holds the book's answer to a line against the model's, and tells it.
 func (m *model) check(t testing.TB, x *Book, line string) string {
 	t.Helper()

@@ -11,9 +11,15 @@ import (
 // begin opens a book on a disk that nobody wrote on.
 func begin(t testing.TB) *Book {
 	t.Helper()
-	x, e := Open(disk.New())
+	return reopen(t, disk.New())
+}
+
+// reopen opens a book on a disk that is not stopped.
+func reopen(t testing.TB, d *disk.Disk) *Book {
+	t.Helper()
+	x, e := Open(d)
 	if x == nil || e != api.OK {
-		t.Fatalf("P5: Open of a new disk: %v, %d", x, e)
+		t.Fatalf("P5, P11: Open: %v, %d", x, e)
 	}
 	return x
 }
@@ -33,14 +39,16 @@ func play(t testing.TB, x *Book, script ...string) {
 }
 
 // whole tells all that a book answers to questions.
-func whole(x *Book) string {
-	pools := x.Do("POOLS")
+func whole(x *Book) string { return wholeOf(x.Do) }
+
+func wholeOf(do func(string) string) string {
+	pools := do("POOLS")
 	out := []string{pools}
 	for _, p := range toldBlocks(pools) {
-		nets := x.Do("NETS " + p)
+		nets := do("NETS " + p)
 		out = append(out, nets)
 		for _, n := range toldBlocks(nets) {
-			out = append(out, x.Do("USED "+n))
+			out = append(out, do("USED "+n))
 		}
 	}
 	return strings.Join(out, "\n")
@@ -49,6 +57,9 @@ func whole(x *Book) string {
 // toldBlocks tells what stands ahead of the owners in the answer to a question.
 func toldBlocks(answer string) []string {
 	var out []string
+	if !strings.HasPrefix(answer, "OK") {
+		return nil
+	}
 	for _, w := range strings.Fields(answer)[1:] {
 		what, _, _ := strings.Cut(w, "=")
 		out = append(out, what)

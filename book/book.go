@@ -41,3 +41,19 @@ func (x *Book) Do(l lines.Line) answers.Answer {
 	}
 	return answers.Refuse(answers.Line)
 }
+
+// Commands tells the commands that make an empty book as this one is.
+func (x *Book) Commands() []string {
+	var out []string
+	// In this order: each finds there what it is carved out of or leased from.
+	for _, p := range x.pools {
+		out = append(out, p.command(lines.Pool))
+	}
+	for _, n := range x.subnets {
+		out = append(out, n.command(lines.Block))
+	}
+	for _, l := range x.leases {
+		out = append(out, l.command())
+	}
+	return out
+}

@@ -6,6 +6,7 @@ import (
 
 	"acre/api"
 	"acre/blocks"
+	"acre/lines"
 )
 
 // holding is a block and who owns it: what pools and subnets are both.
@@ -27,6 +28,11 @@ func (h holding) spans(b api.Block) bool { return blocks.In(b, h.block) }
 func (h holding) ownedBy(name string) bool { return h.owner == name }
 
 func (h holding) text() string { return told(blockText(h.block), h.owner) }
+
+// command tells the command with this verb that makes it.
+func (h holding) command(v lines.Verb) string {
+	return lines.Write(v, anyToken, h.owner, blockText(h.block))
+}
 
 // holder is what embeds a holding.
 type holder interface {

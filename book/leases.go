@@ -18,6 +18,11 @@ type lease struct {
 
 func (l lease) text() string { return told(blocks.WriteAddress(l.address), l.owner) }
 
+// command tells the command that makes it.
+func (l lease) command() string {
+	return lines.Write(lines.Take, anyToken, l.owner, blocks.WriteAddress(l.address))
+}
+
 // findLease tells where the lease of an address is or would be, and whether it is there.
 func (x *Book) findLease(address uint32) (int, bool) {
 	return slices.BinarySearchFunc(x.leases, address, func(l lease, a uint32) int {

@@ -6,6 +6,9 @@ import (
 	"acre/blocks"
 )
 
+// anyToken is in the commands that the book tells of itself: a command needs one, and nobody asks for it.
+const anyToken = "x"
+
 // blockText tells how a block of the book is written.
 func blockText(b api.Block) string {
 	// The book has only right blocks, so there is no error to look at.

@@ -36,6 +36,11 @@ func Read(text string) (Line, bool) {
 	return line, true
 }
 
+// Write writes the line of a verb and the words behind it.
+func Write(v Verb, words ...string) string {
+	return forms[v].word + " " + strings.Join(words, " ")
+}
+
 // readParts reads the words behind the verb; false, if they are not just the parts.
 func (l *Line) readParts(parts [mostParts]part, words []string) bool {
 	if len(words) > mostParts {

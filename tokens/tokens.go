@@ -2,6 +2,7 @@
 package tokens
 
 import (
+	"slices"
 	"strings"
 
 	"acre/api"
@@ -26,8 +27,9 @@ func New() Table {
 
 // Add puts a command behind the others; the oldest goes where there is no room for it.
 func (t Table) Add(e Entry) {
-	// A copy: the line is kept, and is not to keep a longer text with it.
+	// Copies: what is kept is not to keep a longer text with it.
 	e.Line = strings.Clone(e.Line)
+	e.Answer = strings.Clone(e.Answer)
 	for {
 		select {
 		case t.places <- e:
@@ -40,15 +42,22 @@ func (t Table) Add(e Entry) {
 
 // Find tells the command with a token; false, if there is none.
 func (t Table) Find(token string) (Entry, bool) {
-	var out Entry
-	found := false
-	// Once all the way round, even when it is found: only then they stand as before.
+	all := t.All()
+	at := slices.IndexFunc(all, func(e Entry) bool { return e.Token == token })
+	if at < 0 {
+		return Entry{}, false
+	}
+	return all[at], true
+}
+
+// All tells the commands, the oldest first.
+func (t Table) All() []Entry {
+	out := make([]Entry, 0, api.MaxTokens)
+	// Once all the way round: only then they stand as before.
 	for range len(t.places) {
 		e := <-t.places
 		t.places <- e
-		if e.Token == token {
-			out, found = e, true
-		}
+		out = append(out, e)
 	}
-	return out, found
+	return out
 }
